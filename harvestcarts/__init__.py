@@ -1,0 +1,1 @@
+"""Harvestcarts: fields that are harvested by carts."""
