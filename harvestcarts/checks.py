@@ -4,6 +4,7 @@ from harvestcarts.errors import InvalidNumber
 
 LETTERS = "abcdefghijklmnopqrstuvwxyz"
 LAST_DAY = 10 ** 18
+MAX_CARTS = 6
 
 
 def is_number(value, low, high):
