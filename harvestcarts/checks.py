@@ -5,6 +5,7 @@ from harvestcarts.errors import InvalidNumber
 LETTERS = "abcdefghijklmnopqrstuvwxyz"
 LAST_DAY = 10 ** 18
 MAX_CARTS = 6
+MAX_NAME = 8
 
 
 def is_number(value, low, high):
@@ -20,4 +21,4 @@ def check_number(value, low, high):
 
 def is_name(word):
     """Tell whether a word is a name: one to eight letters a to z."""
-    return isinstance(word, str) and 1 <= len(word) <= 8 and all([letter in LETTERS for letter in word])
+    return isinstance(word, str) and 1 <= len(word) <= MAX_NAME and all([letter in LETTERS for letter in word])

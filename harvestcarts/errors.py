@@ -47,3 +47,36 @@ class TooFewCarts(FarmError):
 
 class Contradiction(FarmError):
     """What was seen cannot have happened."""
+
+
+class InvalidCart(FarmError):
+    """A parameter of a cart is invalid."""
+
+    def __init__(self, *, part):
+        super().__init__(f"the {part} of the cart is invalid")
+        self.part = part
+
+
+class InvalidOperation(FarmError):
+    """An operation of a list is none, or does not have the right number of arguments."""
+
+    def __init__(self, *, index):
+        super().__init__(f"there is no valid operation at index {index}")
+        self.index = index
+
+
+class InvalidText(FarmError):
+    """A row of the text of a plan does not have its form."""
+
+    def __init__(self, *, row, word):
+        super().__init__(f"there is no valid word {word} in row {row}")
+        self.row = row
+        self.word = word
+
+
+class DecodeError(FarmError):
+    """A byte of a farm is wrong, missing or one too many."""
+
+    def __init__(self, *, offset):
+        super().__init__(f"there is no valid byte at offset {offset}")
+        self.offset = offset

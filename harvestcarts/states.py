@@ -15,7 +15,7 @@ def _choices_of(names, size):
     return found
 
 
-def _state_after(fields, state, choice):
+def state_after(fields, state, choice):
     """Return the state behind a day with this choice, or None if something rots on this day."""
     following = []
     for (name, limit), left in zip(fields, state):
@@ -30,7 +30,7 @@ def _state_after(fields, state, choice):
 
 def _steps_from(fields, state, choices):
     """Return the list of tuples (choice, next state) of all choices with which nothing rots."""
-    steps = [(choice, _state_after(fields, state, choice)) for choice in choices]
+    steps = [(choice, state_after(fields, state, choice)) for choice in choices]
     return [(choice, after) for choice, after in steps if after is not None]
 
 

@@ -19,7 +19,8 @@ ITERATED = {"zip", "enumerate", "range", "reversed", "items", "keys", "values"}
 ITERATING = {"list", "tuple", "dict", "sorted", "sum", "any", "all", "enumerate", "zip", "min", "max"}
 INTERFACE = {"errors.py": {"FarmError": [], "InvalidFarm": [], "TooManyStates": [], "UnknownField": [],
                            "InvalidPlan": [], "InvalidNumber": [], "NotHarmonic": [], "TooFewCarts": [],
-                           "Contradiction": []},
+                           "Contradiction": [], "InvalidCart": [], "InvalidOperation": [], "InvalidText": [],
+                           "DecodeError": []},
              "farms.py": {"Farm": ["fields", "names", "limits", "share", "equal", "with_limit"], "least_carts": []},
              "plans.py": {"Plan": ["days", "lead", "carts", "harvests"], "first_rot": [], "mend_by_swap": [],
                           "needless_harvests": []},
@@ -27,7 +28,14 @@ INTERFACE = {"errors.py": {"FarmError": [], "InvalidFarm": [], "TooManyStates": 
                            "choices_that_last": []},
              "harmonic.py": {"is_harmonic": [], "Rule": ["count"]},
              "hidden.py": {"PlanObserver": ["pass_days", "see_left", "today", "records", "possible_left",
-                                            "can_last"]}}
+                                            "can_last"]},
+             "carts.py": {"Cart": ["works_on"], "RestingCart": ["works_on"], "ShiftCart": ["works_on"],
+                          "LateCart": ["works_on"], "carts_on": [], "urgent_days": [], "urgent_rot": [],
+                          "urgent_plan": []},
+             "live.py": {"LiveFarm": ["now", "days_left", "limits_now", "rotten", "history", "harvest", "wait",
+                                      "change_limit", "undo", "redo", "apply_all", "tried", "replay"], "Trial": []},
+             "texts.py": {"format_plan": [], "parse_plan": [], "chart": []},
+             "codec.py": {"encode_farm": [], "decode_farm": []}}
 
 
 def name_of_call(node):
@@ -164,6 +172,24 @@ class LanguageTest(unittest.TestCase):
             if isinstance(node, ast.ClassDef):
                 methods = [part.name for part in node.body if isinstance(part, ast.FunctionDef)]
                 self.assertEqual("__getitem__" in methods, "__iter__" in methods, node.name)
+
+    def test_attributes_do_not_have_the_names_of_methods(self):
+        methods = []
+        attributes = []
+        for path, node, parent in nodes_with_parents():
+            if isinstance(parent, ast.ClassDef) and isinstance(node, ast.FunctionDef):
+                methods.append(node.name)
+            if isinstance(node, ast.Attribute) and isinstance(node.ctx, ast.Store):
+                attributes.append(node.attr)
+        self.assertEqual([name for name in attributes if name in methods], [])
+
+    def test_ends_of_blocks_only_assign(self):
+        for path, node, parent in nodes_with_parents():
+            if isinstance(node, ast.FunctionDef) and node.name == "__exit__":
+                for row in node.body:
+                    self.assertIsInstance(row, ast.Assign, path)
+                    self.assertIsInstance(row.value, ast.Attribute, path)
+                    self.assertIsInstance(row.value.value, ast.Name, path)
 
 
 if __name__ == "__main__":
