@@ -57,8 +57,8 @@ class ParsePlanTest(TextsTestCase):
             self.assert_wrong_word(text + "\na", 0, 0)
 
     def test_second_word(self):
-        for word in ["", "x", "-1", "+1", "00", "01", "0001", "10000", "00000", "1.0", "0x1", "1_0", "\u0661", "\u00b2",
-                     "0\r", "0\t", "-", "12345", "1a"]:
+        for word in ["", "x", "-1", "+1", "00", "01", "0001", "10000", "00000", "1.0", "0x1", "1_0", "\u0661",
+                     "\u00b2", "0\r", "0\t", "-", "12345", "1a"]:
             self.assert_wrong_word(f"lead {word}\na", 0, 1)
             self.assert_wrong_word(f"lead {word} 0\n7", 0, 1)
         self.assert_wrong_word("lead\na", 0, 1)
