@@ -52,8 +52,8 @@ class ParsePlanTest(TextsTestCase):
             self.assertEqual(parse_plan(f"lead {lead}" + "\n-" * 5000).lead, lead)
 
     def test_first_word(self):
-        for text in ["", "leads 0", "Lead 0", "lea", "0 lead", " lead 0", "lead\t0", " ", "-", "\n", "\nlead 0", "lead0",
-                     "leads", " lead x y"]:
+        for text in ["", "leads 0", "Lead 0", "lea", "0 lead", " lead 0", "lead\t0", " ", "-", "\n", "\nlead 0",
+                     "lead0", "leads", " lead x y"]:
             self.assert_wrong_word(text + "\na", 0, 0)
 
     def test_second_word(self):
